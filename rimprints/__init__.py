@@ -1,0 +1,1 @@
+"""Rimprints: strips printed by wheels."""
