@@ -45,7 +45,7 @@ def written_dyes(pairs):
 
 def parsed(text):
     """What the text has the form of, a press but for what press_of refuses."""
-    # A list of what is open, not calls within calls: a text may be nested deeper than calls can be.
+    # A list of the rows that are begun, not calls within calls: a text may be nested deeper than calls can be.
     # The first row takes what stands in no brackets: one whole press, or the text has no form.
     rows = [[]]
     for word in text.split(" "):
