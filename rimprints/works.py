@@ -4,7 +4,7 @@ from math import gcd, lcm
 from rimprints.errors import TooLong
 from rimprints.strips import tally_of
 
-LONGEST_CAM = 100000
+LONGEST = 100000
 
 
 class Work:
@@ -43,10 +43,15 @@ def presses_within(press):
             return [inner, other]
 
 
-def check_cam(cam):
-    """Refuse a cam of which nobody could write down all that it prints till it comes round."""
-    if cam.begin + cam.length > LONGEST_CAM:
-        raise TooLong("a cam comes round too late")
+def check_short(begin, length):
+    """Refuse what comes round too late for all that it prints till then to be written down."""
+    if begin + length > LONGEST:
+        raise TooLong("it comes round too late")
+
+
+def together(one, other):
+    """From where on, and by what length two come round together."""
+    return max(one.begin, other.begin), lcm(one.length, other.length)
 
 
 def times_to(amount, step):
@@ -70,17 +75,18 @@ def reckon_dyed(work):
 
 def reckon_over(work):
     one, other = work.within
-    return max(one.begin, other.begin), lcm(one.length, other.length)
+    return together(one, other)
 
 
 def reckon_cut(work):
-    check_cam(work.within[1])
-    return reckon_over(work)
+    press, cam = work.within
+    check_short(cam.begin, cam.length)
+    return together(press, cam)
 
 
 def reckon_held(work):
     inner, cam = work.within
-    check_cam(cam)
+    check_short(cam.begin, cam.length)
     cam.tally = tally_of(cam)
     ahead = cam.tally[cam.begin]
     in_round = cam.tally[cam.begin + cam.length] - ahead

@@ -3,10 +3,15 @@
 import unittest
 
 from rimprints import errors
-from rimprints.errors import NoPress, NoText, PrintError, TooLong
-from rimprints.presses import parts_in, press_of, reckoned
-from rimprints.texts import press_text, read_press
-from tests.samples import A, chain
+from rimprints.apart import first_apart, many_apart, nth_apart, order_matters, turning_of
+from rimprints.counts import how_many, nth
+from rimprints.errors import NoLetter, NoNumber, NoPlace, NoPress, NoText, PrintError, TooLong
+from rimprints.marks import mark_at, piece
+from rimprints.presses import press_of
+from rimprints.rounds import press_by
+from rimprints.texts import read_press
+from tests.asked import ALL, OF_ANY, OF_SHORT, all_told
+from tests.samples import A, AB, HUGE, as_lists, chain
 
 NAMES = ("NoPress", "TooLong", "NoText", "NoPlace", "NoLetter", "NoNumber", "NoSeen", "NoForm", "NoName", "NoneYet")
 
@@ -42,23 +47,64 @@ class Refusals(unittest.TestCase):
         self.assertIs(type(caught.exception), error)
 
     def test_no_press(self):
-        for call in (press_of, parts_in, reckoned, press_text):
+        for call in ALL:
             self.refused(NoPress, call, ("wheel", ""))
             self.refused(NoPress, call, chain(13))
         self.refused(NoPress, read_press, "(taking (wheel a) 0 (wheel b) 1)")
+        self.refused(NoPress, press_by, "a", "")
 
     def test_too_long(self):
         long = ("cut", A, ("then", A, 100000, A))
-        for call in (press_of, parts_in, reckoned, press_text):
+        for call in ALL:
             self.refused(TooLong, call, long)
         self.refused(TooLong, read_press, "(cut (wheel a) (then (wheel a) 100000 (wheel a)))")
+
+    def test_too_long_to_come_round(self):
+        for late in (("then", A, 100000, A), ("then", A, HUGE, AB), ("taking", ((A, HUGE), (AB, 1)))):
+            for call in OF_SHORT:
+                self.refused(TooLong, call, late)
+            for call in OF_ANY:
+                self.assertEqual(call(as_lists(late)), call(late))
 
     def test_no_text(self):
         self.refused(NoText, read_press, "")
         self.refused(NoText, read_press, None)
 
+    def test_no_place(self):
+        for wrong in (-1, None, True, "a"):
+            self.refused(NoPlace, mark_at, A, wrong)
+            self.refused(NoPlace, piece, A, wrong, 1)
+            self.refused(NoPlace, piece, A, 1, wrong)
+            self.refused(NoPlace, how_many, A, None, wrong)
+            self.refused(NoPlace, many_apart, A, AB, wrong)
+
+    def test_no_letter(self):
+        for wrong in (".", "A", "ab", "", 1):
+            self.refused(NoLetter, how_many, A, wrong, 0)
+            self.refused(NoLetter, nth, A, wrong, 0)
+
+    def test_no_number(self):
+        for wrong in (-1, None, True, "a"):
+            self.refused(NoNumber, nth, A, None, wrong)
+            self.refused(NoNumber, nth_apart, A, AB, wrong)
+
     def test_a_refusal_changes_nothing(self):
         handed = ["over", ["wheel", "a"], ["turned", ["wheel", "b"], -1]]
-        self.refused(NoPress, press_of, handed)
-        self.assertEqual(handed, ["over", ["wheel", "a"], ["turned", ["wheel", "b"], -1]])
+        for call in ALL:
+            self.refused(NoPress, call, handed)
+            self.assertEqual(handed, ["over", ["wheel", "a"], ["turned", ["wheel", "b"], -1]])
         self.assertEqual(press_of(["wheel", "a"]), ("wheel", "a"))
+
+    def test_the_same_is_told_behind_a_refusal(self):
+        press = ["then", ["wheel", "ab"], 3, ["held", ["wheel", "xyz"], ["wheel", "a."]]]
+        kept = as_lists(press_of(press))
+        told = all_told(press)
+        self.refused(NoPlace, piece, press, 0, -1)
+        self.refused(NoLetter, how_many, press, "?", 0)
+        self.refused(NoNumber, nth, press, "a", -1)
+        self.refused(NoPlace, many_apart, press, A, -1)
+        self.refused(TooLong, first_apart, press, ("then", A, 100000, A))
+        self.refused(TooLong, turning_of, ("then", A, 100000, A), press)
+        self.refused(TooLong, order_matters, press, ("then", A, 99999, A))
+        self.assertEqual(press, kept)
+        self.assertEqual(all_told(press), told)

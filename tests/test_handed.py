@@ -3,23 +3,38 @@
 import copy
 import unittest
 
-from rimprints.errors import NoPress
+from rimprints.apart import first_apart, many_apart, nth_apart, order_matters, turning_of
+from rimprints.counts import how_many, nth
+from rimprints.errors import NoPress, PrintError
+from rimprints.marks import mark_at, piece
 from rimprints.presses import parts_in, press_of, reckoned
+from rimprints.rounds import plain, press_by, round_of
 from rimprints.texts import press_text, read_press
-from tests.samples import A, AB, EACH, HUGE, as_lists, as_mixed, made_of_tuples, presses
+from tests.asked import ALL, all_told
+from tests.samples import A, AB, EACH, HUGE, as_lists, as_mixed, made_of_tuples
+from tests.slow import short_presses
 
-CALLS = (press_of, parts_in, reckoned, press_text)
-SOME = EACH + tuple(presses(2, 60))
+SOME = EACH + tuple(short_presses(2, 60))
 
 
 class ListsAndTuples(unittest.TestCase):
     def test_lists_and_tuples_are_the_same_press(self):
         for press in SOME:
-            for call in CALLS:
+            for call in ALL:
                 told = call(press)
                 self.assertEqual(call(as_lists(press)), told)
                 self.assertEqual(call(as_mixed(press)), told)
                 self.assertEqual(call(as_mixed(press, 1)), told)
+
+    def test_two_presses(self):
+        for one, other in zip(SOME, SOME[1:]):
+            for call in (first_apart, turning_of, order_matters):
+                told = call(one, other)
+                self.assertEqual(call(as_lists(one), as_mixed(other)), told)
+                self.assertEqual(call(as_mixed(one, 1), as_lists(other)), told)
+                self.assertEqual(call(one, as_lists(other)), told)
+            for call in (many_apart, nth_apart):
+                self.assertEqual(call(as_lists(one), as_mixed(other), 9), call(one, other, 9))
 
     def test_mixed_by_hand(self):
         mixed = ["dyed", ("taking", [(["wheel", "ab"], 1), [("wheel", "c"), 2]]), (["a", "b"], ("b", "."))]
@@ -46,7 +61,7 @@ class NothingChanged(unittest.TestCase):
         for press in SOME:
             handed = as_lists(press)
             before = copy.deepcopy(handed)
-            for call in CALLS:
+            for call in ALL:
                 call(handed)
                 self.assertEqual(handed, before)
 
@@ -63,6 +78,30 @@ class NothingChanged(unittest.TestCase):
         self.assertEqual(told, kept)
         self.assertEqual(told, ("over", ("dyed", AB, (("a", "b"),)), ("taking", ((("wheel", "c"), 2), (("wheel", "d"), 1)))))
 
+    def test_two_presses_are_as_they_were(self):
+        for one, other in zip(SOME, SOME[1:]):
+            left, right = as_lists(one), as_lists(other)
+            first_apart(left, right)
+            many_apart(left, right, 9)
+            nth_apart(left, right, 9)
+            turning_of(left, right)
+            order_matters(left, right)
+            self.assertEqual((left, right), (as_lists(one), as_lists(other)))
+
+    def test_asked_in_any_order(self):
+        """What is asked of one press changes nothing of what is told of another one."""
+        told = [all_told(press) for press in SOME]
+        self.assertEqual([all_told(press) for press in SOME[::-1]], told[::-1])
+
+    def test_changed_it_is_told_anew(self):
+        handed = ["then", ["wheel", "ab"], 3, ["wheel", "xyz"]]
+        self.assertEqual((piece(handed, 0, 6), round_of(handed)), ("abaxyz", (3, 3)))
+        handed[2] = 1
+        self.assertEqual((piece(handed, 0, 6), round_of(handed)), ("axyzxy", (1, 3)))
+        handed[3][1] = "xx"
+        self.assertEqual((plain(handed), how_many(handed, "x", 9), nth(handed, "x", 9)), (("a", "x"), 8, 10))
+        self.assertEqual(mark_at(handed, HUGE), "x")
+
     def test_changed_it_is_another_press(self):
         handed = ["turned", ["wheel", "ab"], 3]
         self.assertEqual(press_text(handed), "(turned (wheel ab) 3)")
@@ -73,8 +112,7 @@ class NothingChanged(unittest.TestCase):
 
     def test_the_same_asked_again(self):
         for press in SOME:
-            for call in CALLS:
-                self.assertEqual(call(press), call(press))
+            self.assertEqual(all_told(press), all_told(press))
             text = press_text(press)
             self.assertEqual(read_press(text), read_press(text))
 
@@ -89,9 +127,24 @@ class Numbers(unittest.TestCase):
         for truth in (True, False):
             for press in (("turned", A, truth), ("then", A, truth, A),
                           ("taking", ((A, truth), (A, 1))), ("taking", ((A, 1), (A, truth)))):
-                for call in CALLS:
+                for call in ALL:
                     with self.assertRaises(NoPress):
                         call(press)
+
+    def test_places_and_numbers_of_thirty_figures(self):
+        for place in (10 ** 29, HUGE):
+            self.assertEqual(piece(("wheel", "abcdefg"), place, 3), ("abcdefg" * 2)[place % 7:place % 7 + 3])
+            self.assertEqual(nth(AB, "b", how_many(AB, "b", place)), place // 2 * 2 + 1)
+            self.assertEqual(many_apart(A, AB, place), place // 2)
+
+    def test_a_truth_is_no_place_and_no_number(self):
+        for truth in (True, False):
+            for call in (mark_at, lambda press, wrong: piece(press, 0, wrong), lambda press, wrong: piece(press, wrong, 1),
+                         lambda press, wrong: how_many(press, "a", wrong), lambda press, wrong: nth(press, "a", wrong),
+                         lambda press, wrong: many_apart(press, press, wrong),
+                         lambda press, wrong: nth_apart(press, press, wrong)):
+                with self.assertRaises(PrintError):
+                    call(A, truth)
 
     def test_thirty_figures(self):
         for many in (10 ** 29, HUGE):
@@ -117,6 +170,51 @@ class Numbers(unittest.TestCase):
         figures = "3" * 4000 + "0" * 3998 + "12"
         self.assertEqual(press_text(press), f"(turned (wheel a) {figures})")
         self.assertEqual(read_press(f"(turned (wheel a) {figures})"), press)
+
+
+class ToldAgain(unittest.TestCase):
+    def test_what_is_told_of_a_press_is_asked_of_it_again(self):
+        for press in SOME:
+            place = nth(press, None, HUGE ** 3)
+            if place is not None:
+                self.assertEqual(how_many(press, None, place), HUGE ** 3)
+                self.assertNotEqual(mark_at(press, place), ".")
+                self.assertEqual(piece(press, place, 1), mark_at(press, place))
+                self.assertEqual(nth(press, None, place) is None, False)
+                turned = ("turned", press, place)
+                self.assertEqual(read_press(press_text(turned)), turned)
+                self.assertEqual(mark_at(turned, 0), mark_at(press, place))
+
+    def test_reckoned_numbers_as_places(self):
+        press = ("taking", ((("then", A, HUGE, AB), 7), (("wheel", "xyz"), HUGE)))
+        begin, length = reckoned(press)
+        self.assertEqual(piece(press, begin, 50), piece(press, begin + length, 50))
+        self.assertEqual(piece(press, begin * HUGE + 3, 50), piece(press, begin * HUGE + 3 + length * HUGE, 50))
+
+    def test_plain_texts_of_thousands_of_marks(self):
+        wide = ("over", ("wheel", "ab" + "." * 95), ("wheel", "b" + "." * 100))
+        press = ("then", ("wheel", "xyz"), 9000, wide)
+        told = press_by(*plain(press))
+        self.assertEqual(told, ("then", ("wheel", "xyz" * 3000), 9000, ("wheel", plain(wide)[1])))
+        for call in ALL:
+            if call not in (parts_in, reckoned, press_text, press_of):
+                self.assertEqual(call(told), call(press))
+        self.assertEqual((parts_in(told), reckoned(told), press_of(as_lists(told))), (3, (9000, 9797), told))
+        self.assertEqual(read_press(press_text(told)), told)
+        self.assertIsNone(first_apart(told, press))
+        self.assertEqual((many_apart(told, press, HUGE), nth_apart(press, told, 0)), (0, None))
+        self.assertEqual((turning_of(press, told), order_matters(told, press)), (0, None))
+        turned = ("turned", ("held", told, ("over", A, told)), 12345)
+        self.assertEqual(piece(turned, 0, 2000), piece(press, 12345, 2000))
+        self.assertEqual(turning_of(told, press_by(*plain(turned))), 12345)
+
+    def test_plain_of_the_longest(self):
+        press = ("then", ("wheel", "xyz"), 50000, ("wheel", "a" * 49999 + "b"))
+        told = press_by(*plain(press))
+        self.assertEqual(plain(told), plain(press))
+        self.assertEqual(read_press(press_text(told)), told)
+        self.assertEqual(nth(told, "b", HUGE), 50000 * HUGE + 99999)
+        self.assertIsNone(first_apart(told, press))
 
 
 class Rims(unittest.TestCase):

@@ -12,6 +12,14 @@ LIBRARY = {"math": {"gcd", "lcm"}}
 INTERFACE = {
     "presses": {"press_of": ["thing"], "parts_in": ["press"], "reckoned": ["press"]},
     "texts": {"press_text": ["press"], "read_press": ["text"]},
+    "marks": {"mark_at": ["press", "place"], "piece": ["press", "first", "many"]},
+    # The document's `round` is a builtin's name, which the rules bar; callers hand it by its place.
+    "rounds": {"round_of": ["press"], "plain": ["press"], "press_by": ["ahead", "lap"]},
+    "counts": {"how_many": ["press", "letter", "place"], "nth": ["press", "letter", "number"]},
+    "apart": {
+        "first_apart": ["one", "other"], "many_apart": ["one", "other", "place"], "nth_apart": ["one", "other", "number"],
+        "turning_of": ["one", "other"], "order_matters": ["one", "other"],
+    },
 }
 
 
