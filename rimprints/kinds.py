@@ -24,3 +24,13 @@ def is_mark_or_none(thing):
 def is_rim(thing):
     """Whether it is a text of one mark or `.` at least."""
     return isinstance(thing, str) and len(thing) > 0 and all(is_mark_or_none(sign) for sign in thing)
+
+
+def is_seen(thing):
+    """Whether it is a seen piece: a text of one place at least, of marks, `.` and `?`."""
+    return isinstance(thing, str) and is_rim(thing.replace("?", "."))
+
+
+def is_name(thing):
+    """Whether it is a name that a desk may have: one to eight small letters."""
+    return isinstance(thing, str) and 1 <= len(thing) <= 8 and all(is_mark(sign) for sign in thing)

@@ -1,9 +1,27 @@
 """Presses as texts, and presses read from texts."""
 
-from rimprints.errors import NoText
+from rimprints.errors import NoName, NoText
 from rimprints.figures import figures_of, is_figures, number_of
-from rimprints.kinds import is_mark, is_mark_or_none, is_rim
+from rimprints.kinds import is_mark, is_mark_or_none, is_name, is_rim
 from rimprints.presses import press_of
+
+STAND_IN = ("wheel", ".")
+
+
+class Names:
+    """Names that may stand in a text for presses, and whether one was read that isn't there."""
+
+    def __init__(self, presses):
+        self.presses = presses
+        self.missed = False
+
+    def meant(self, name):
+        """The press that a name means."""
+        if name in self.presses:
+            return self.presses[name]
+        # Not refused at once: NoText goes ahead of NoName, and may be due further on in the text.
+        self.missed = True
+        return STAND_IN
 
 
 def press_text(press):
@@ -15,7 +33,16 @@ def read_press(text):
     """The press of a text."""
     if not isinstance(text, str):
         raise NoText("no text")
-    return press_of(parsed(text))
+    return press_of(parsed(text, None))
+
+
+def read_named(text, presses):
+    """The press of a text in which the names of these presses may stand for them; NoName for another name."""
+    names = Names(presses)
+    thing = parsed(text, names)
+    if names.missed:
+        raise NoName("a name in the text isn't there")
+    return press_of(thing)
 
 
 def written(press):
@@ -43,8 +70,8 @@ def written_dyes(pairs):
     return "".join([f" {old}{new}" for old, new in pairs])
 
 
-def parsed(text):
-    """What the text has the form of, a press but for what press_of refuses."""
+def parsed(text, names):
+    """What the text has the form of, a press but for what press_of refuses; without names where they are None."""
     # A list of the rows that are begun, not calls within calls: a text may be nested deeper than calls can be.
     # The first row takes what stands in no brackets: one whole press, or the text has no form.
     rows = [[]]
@@ -52,47 +79,49 @@ def parsed(text):
         if word.startswith("("):
             rows.append([word[1:]])
         else:
-            put_word(rows, word)
+            put_word(rows, word, names)
     if len(rows) > 1 or len(rows[0]) > 1:
         raise NoText("a text is one whole press")
-    return checked_press(rows[0][0])
+    return part_of(rows[0][0], names)
 
 
-def put_word(rows, word):
+def put_word(rows, word, names):
     """Put a word into the last row, and close as many rows as brackets follow it."""
     bare = word.rstrip(")")
     rows[-1].append(bare)
     for _ in range(len(word) - len(bare)):
         if len(rows) == 1:
             raise NoText("a bracket closes nothing")
-        done = formed(rows.pop())
+        done = formed(rows.pop(), names)
         rows[-1].append(done)
 
 
-def formed(row):
+def formed(row, names):
     """What a row of words and of what stood in brackets within has the form of."""
     match row:
         case ["wheel", rim]:
             return ("wheel", checked_rim(rim))
         case ["turned", inner, many]:
-            return ("turned", checked_press(inner), read_number(many))
+            return ("turned", part_of(inner, names), read_number(many))
         case ["over" | "cut" | "held", inner, other]:
-            return (row[0], checked_press(inner), checked_press(other))
+            return (row[0], part_of(inner, names), part_of(other, names))
         case ["taking", *turns]:
-            return ("taking", read_turns(turns))
+            return ("taking", read_turns(turns, names))
         case ["then", inner, many, other]:
-            return ("then", checked_press(inner), read_number(many), checked_press(other))
+            return ("then", part_of(inner, names), read_number(many), part_of(other, names))
         case ["dyed", inner, *dyes]:
-            return ("dyed", checked_press(inner), tuple([read_dye(dye) for dye in dyes]))
+            return ("dyed", part_of(inner, names), tuple([read_dye(dye) for dye in dyes]))
         case _:
             raise NoText("no text has this form")
 
 
-def checked_press(part):
-    """Refuse a bare word where brackets are due."""
-    if isinstance(part, str):
+def part_of(part, names):
+    """What stands where a press may: what stood in brackets, or the press that a name means."""
+    if not isinstance(part, str):
+        return part
+    if names is None or not is_name(part):
         raise NoText("a press stands in brackets")
-    return part
+    return names.meant(part)
 
 
 def checked_rim(part):
@@ -107,11 +136,11 @@ def read_number(part):
     return number_of(part)
 
 
-def read_turns(turns):
+def read_turns(turns, names):
     """The pairs of a taking press, of presses and numbers by turns."""
     if len(turns) not in (4, 6, 8, 10, 12):
         raise NoText("two to six presses take turns")
-    return tuple([(checked_press(inner), read_number(many)) for inner, many in zip(turns[::2], turns[1::2])])
+    return tuple([(part_of(inner, names), read_number(many)) for inner, many in zip(turns[::2], turns[1::2])])
 
 
 def read_dye(part):

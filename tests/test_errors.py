@@ -5,11 +5,16 @@ import unittest
 from rimprints import errors
 from rimprints.apart import first_apart, many_apart, nth_apart, order_matters, turning_of
 from rimprints.counts import how_many, nth
-from rimprints.errors import NoLetter, NoNumber, NoPlace, NoPress, NoText, PrintError, TooLong
+from rimprints.desk import Desk
+from rimprints.errors import NoForm, NoLetter, NoName, NoneYet, NoNumber, NoPlace, NoPress, NoSeen, NoText, PrintError
+from rimprints.errors import TooLong
 from rimprints.marks import mark_at, piece
+from rimprints.one import least_spoilt, lengths_for, rim_for, spoilt_for
 from rimprints.presses import press_of
 from rimprints.rounds import press_by
+from rimprints.several import known_from
 from rimprints.texts import read_press
+from rimprints.two import beneath, least_two, two_for
 from tests.asked import ALL, OF_ANY, OF_SHORT, all_told
 from tests.samples import A, AB, HUGE, as_lists, chain
 
@@ -87,6 +92,27 @@ class Refusals(unittest.TestCase):
         for wrong in (-1, None, True, "a"):
             self.refused(NoNumber, nth, A, None, wrong)
             self.refused(NoNumber, nth_apart, A, AB, wrong)
+
+    def test_no_seen_and_no_number_of_a_seen_piece(self):
+        for call in (lengths_for, rim_for, spoilt_for, least_spoilt, least_two):
+            self.refused(NoSeen, call, "", 41)
+            self.refused(NoNumber, call, "a", 41)
+        self.refused(NoSeen, two_for, "A", 0, 0)
+        self.refused(NoNumber, two_for, "a", 1, 0)
+        self.refused(NoSeen, beneath, "", "")
+        self.refused(NoPress, beneath, "a", "")
+        self.refused(NoSeen, known_from, [], 11)
+        self.refused(NoNumber, known_from, ["a"], 11)
+
+    def test_of_a_desk(self):
+        desk = Desk()
+        desk.say("put late (then (wheel a) 100000 (wheel a))")
+        for error, row in ((NoForm, "at"), (NoForm, None), (NoText, "put a "), (NoName, "at a 0"), (NoName, "put a a"),
+                           (NoPress, "put a (dyed late ab ab)"), (TooLong, "put a (cut late late)"),
+                           (TooLong, "round late")):
+            self.refused(error, desk.say, row)
+        desk.say("undo")
+        self.refused(NoneYet, desk.say, "undo")
 
     def test_a_refusal_changes_nothing(self):
         handed = ["over", ["wheel", "a"], ["turned", ["wheel", "b"], -1]]

@@ -20,6 +20,13 @@ INTERFACE = {
         "first_apart": ["one", "other"], "many_apart": ["one", "other", "place"], "nth_apart": ["one", "other", "number"],
         "turning_of": ["one", "other"], "order_matters": ["one", "other"],
     },
+    "one": {
+        "lengths_for": ["seen", "most"], "rim_for": ["seen", "length"], "spoilt_for": ["seen", "length"],
+        "least_spoilt": ["seen", "most"],
+    },
+    "two": {"two_for": ["seen", "lower", "upper"], "least_two": ["seen", "most"], "beneath": ["seen", "rim"]},
+    "several": {"known_from": ["pieces", "length"]},
+    "desk": {"Desk": []},
 }
 
 
@@ -31,6 +38,11 @@ class Interface(unittest.TestCase):
                 function = getattr(module, name)
                 self.assertEqual(function.__module__, "rimprints." + file)
                 self.assertEqual(list(inspect.signature(function).parameters), arguments)
+
+    def test_the_desk_has_its_method_itself(self):
+        say = vars(importlib.import_module("rimprints.desk").Desk)["say"]
+        self.assertTrue(inspect.isfunction(say))
+        self.assertEqual(list(inspect.signature(say).parameters), ["self", "row"])
 
 
 class Rules(unittest.TestCase):
